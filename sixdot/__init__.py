@@ -1,0 +1,1 @@
+"""Sixdot: a press for books in raised dots."""

@@ -1,0 +1,40 @@
+"""The interface: each name is defined in the file under which the document lists it, with the arguments told."""
+
+import importlib
+import inspect
+import unittest
+
+FUNCTIONS = {
+    "table": {
+        "same_table": "(table, other)", "same_book": "(book, other)", "is_let_by": "(table)", "is_book": "(book)",
+        "dots_of": "(cell)", "cell_of": "(dots)",
+    },
+    "lexer": {"pieces": "(line, number)"},
+}
+CLASSES = {
+    "table": {
+        "Rule": "(mode, text, cells, to, *, ahead=None, behind=None)", "Table": "(signs, modes, rules)", "Book": "(blocks)",
+    },
+    "errors": {
+        "TextError": "(line, column, reason)", "TooLarge": "(limit)", "NoWriting": "(block)", "NoLayout": "(line)",
+        "Unreadable": "(place, reason)", "SeveralTexts": "(first, second)", "NoText": "(place)", "StrangeSheet": "(place)",
+        "NotMissing": "(number)", "InvalidLine": "(line)",
+    },
+}
+
+
+class InterfaceTest(unittest.TestCase):
+    def test_names_and_arguments(self):
+        for told, is_kind in [(FUNCTIONS, inspect.isfunction), (CLASSES, inspect.isclass)]:
+            for name, listed in told.items():
+                module = importlib.import_module(f"sixdot.{name}")
+                for word, arguments in listed.items():
+                    with self.subTest(f"{name}.{word}"):
+                        value = getattr(module, word)
+                        self.assertTrue(is_kind(value))
+                        self.assertEqual(value.__module__, module.__name__)
+                        self.assertEqual(str(inspect.signature(value)), arguments)
+
+
+if __name__ == "__main__":
+    unittest.main()
