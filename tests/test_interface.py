@@ -10,6 +10,16 @@ FUNCTIONS = {
         "dots_of": "(cell)", "cell_of": "(dots)",
     },
     "lexer": {"pieces": "(line, number)"},
+    "reader": {"read_table": "(text)", "read_book": "(text)"},
+    "writer": {"write_table": "(table)", "write_book": "(book)", "write_cell": "(cell)", "write_quoted": "(text)"},
+    "writing": {
+        "fitting": "(table, text, place, mode)", "writings": "(table, text)", "best_writing": "(table, text)",
+        "is_way": "(table, text, way)",
+    },
+    "potentials": {
+        "make_numbers": "(table, text)", "accepts_numbers": "(table, text, numbers)",
+        "shows_best": "(table, text, numbers, way)",
+    },
 }
 CLASSES = {
     "table": {

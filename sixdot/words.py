@@ -1,0 +1,33 @@
+"""What the lines of all texts share: how a text is parted into lines, and how numbers and cells are written."""
+
+from sixdot.table import cell_of
+
+DOTS = "123456"
+
+
+def lines_of(text):
+    """Returns the list of the lines of a text, without their newlines."""
+    lines = text.split("\n")
+    # Behind the last newline no further line begins; so a text of no characters has no line at all.
+    if lines[-1] == "":
+        lines.pop()
+    return lines
+
+
+def number_of(word, digits):
+    """Returns the number that a word writes with at most so many digits and no zero in front, or None."""
+    # The length is looked at first: int is not to be given rows of digits of any length.
+    if len(word) > digits or not (word.isascii() and word.isdigit()):
+        return None
+    if word[0] == "0" and word != "0":
+        return None
+    return int(word)
+
+
+def cell_of_word(word):
+    """Returns the cell that a word writes, or None."""
+    if word == "-":
+        return 0
+    if word == "" or word != "".join([dot for dot in DOTS if dot in word]):
+        return None
+    return cell_of([int(dot) for dot in word])

@@ -1,0 +1,70 @@
+"""The examples of the interface, as they stand in the document."""
+
+import unittest
+
+EXAMPLES = {
+    "reader and writer": r"""
+>>> from sixdot.reader import read_book, read_table
+>>> from sixdot.writer import write_book, write_cell, write_table
+>>> text = 'signs "ab \\""\nmodes 2\nrule 0 "ab" = 12 - 3456 to 1 ahead "a^"\nrule 1 " " = - to 0\n'
+>>> table = read_table(text)
+>>> table.signs, table.rules[0].cells, table.rules[0].ahead, table.rules[1].to
+('ab "', [3, 0, 60], 'a^', 0)
+>>> write_table(table) == text, write_cell(63), write_cell(0)
+(True, '123456', '-')
+>>> book = read_book("head The one\nitem 2 a  b\n")
+raises TextError
+>>> read_book("head The one\nnote 7 b\nbreak\n").blocks
+[('head', 'The one'), ('note', 7, 'b'), ('break',)]
+""",
+    "writing and potentials": r"""
+>>> from sixdot.table import Rule, Table
+>>> from sixdot.writing import best_writing, is_way, writings
+>>> rules = [Rule(0, "a", [1], 0), Rule(0, "b", [3], 0), Rule(0, "ab", [7], 1, behind="a$"), Rule(1, "a", [1], 0)]
+>>> table = Table("ab", 2, rules)
+>>> writings(table, "abab"), best_writing(table, "aab")
+([[1, 3, 1, 3], [1, 3, 7], [7, 1, 3]], ([1, 7], [0, 2]))
+>>> is_way(table, "aba", [2, 3]), is_way(table, "aba", [2, 0]), best_writing(table, "abb")
+(True, False, ([1, 3, 3], [0, 1, 1]))
+>>> from sixdot.potentials import accepts_numbers, make_numbers, shows_best
+>>> numbers = make_numbers(table, "ab")
+>>> numbers[0][0], accepts_numbers(table, "ab", numbers), shows_best(table, "ab", numbers, [2])
+(1, True, True)
+>>> shows_best(table, "ab", numbers, [0, 1]), accepts_numbers(table, "ab", [[2, 0], [0, 0], [0, 0]])
+(False, False)
+""",
+}
+
+
+def steps_of(example):
+    """Returns the list of the pairs of a line behind `>>>` and what the next line tells, or None."""
+    lines = example.strip().splitlines()
+    steps = []
+    for at, line in enumerate(lines):
+        if line.startswith(">>> "):
+            told = lines[at + 1] if at + 1 < len(lines) and not lines[at + 1].startswith(">>> ") else None
+            steps.append((line[4:], told))
+    return steps
+
+
+class ExamplesTest(unittest.TestCase):
+    def check(self, step, told, names):
+        if told is None:
+            exec(step, names)
+        elif told.startswith("raises "):
+            with self.assertRaises(ValueError) as caught:
+                exec(step, names)
+            self.assertEqual(caught.exception.__class__.__name__, told.removeprefix("raises "))
+        else:
+            self.assertEqual(repr(eval(step, names)), told)
+
+    def test_examples(self):
+        for title, example in EXAMPLES.items():
+            names = {}
+            for step, told in steps_of(example):
+                with self.subTest(f"{title}: {step}"):
+                    self.check(step, told, names)
+
+
+if __name__ == "__main__":
+    unittest.main()
