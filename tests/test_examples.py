@@ -33,6 +33,33 @@ raises TextError
 >>> shows_best(table, "ab", numbers, [0, 1]), accepts_numbers(table, "ab", [[2, 0], [0, 0], [0, 0]])
 (False, False)
 """,
+    "reading and unique": r"""
+>>> from sixdot.reading import Reader, read_row, texts_of
+>>> from sixdot.table import Rule, Table
+>>> rules = [Rule(0, "a", [1], 0), Rule(0, "b", [1, 1], 0, behind="a"), Rule(0, "b", [2], 0)]
+>>> table = Table("ab", 1, rules)
+>>> texts_of(table, [1, 1, 1]), texts_of(table, [1, 2])
+(['aaa', 'ba'], ['ab'])
+>>> read_row(table, [1, 2]), texts_of(table, [1, 1])
+('ab', ['aa'])
+>>> reader = Reader(table)
+>>> reader.step(1), reader.spots(), reader.is_done()
+(2, [(0, 1), (1, 1)], True)
+>>> read_row(table, [1, 1, 1])
+raises SeveralTexts
+>>> from sixdot.unique import accepts_paper, decide
+>>> decide(table)
+('same', [1, 1, 1], 'aaa', 'ba')
+>>> other = Table("ab", 1, [Rule(0, "a", [1], 0), Rule(0, "b", [1, 2], 0)])
+>>> answer = decide(other)
+>>> answer[0], accepts_paper(other, answer[1]), accepts_paper(table, answer[1])
+('readable', True, False)
+""",
+    "shape": r"""
+>>> from sixdot.shape import figures, label_row
+>>> figures(10), label_row((2, 0, 1))
+([2, 1], [3, 11, 1, 11, 2])
+""",
 }
 
 

@@ -20,6 +20,15 @@ FUNCTIONS = {
         "make_numbers": "(table, text)", "accepts_numbers": "(table, text, numbers)",
         "shows_best": "(table, text, numbers, way)",
     },
+    "reading": {
+        "next_spots": "(table, spot, cell)", "can_end": "(table, spot)", "texts_of": "(table, row)",
+        "read_row": "(table, row)",
+    },
+    "unique": {
+        "next_pairs": "(table, pair, lead)", "is_hopeful": "(table, pair)", "accepts_paper": "(table, paper)",
+        "decide": "(table)",
+    },
+    "shape": {"figures": "(number)", "label_row": "(label)", "block_mark": "(shape, block)"},
 }
 CLASSES = {
     "table": {
@@ -30,6 +39,13 @@ CLASSES = {
         "Unreadable": "(place, reason)", "SeveralTexts": "(first, second)", "NoText": "(place)", "StrangeSheet": "(place)",
         "NotMissing": "(number)", "InvalidLine": "(line)",
     },
+    "reading": {"Reader": "(table)"},
+    "shape": {
+        "Marks": "(head, par, depths, note, stop, on, joined, number)", "Shape": "(width, height, size, marks)",
+    },
+}
+METHODS = {
+    ("reading", "Reader"): {"step": "(self, cell)", "spots": "(self)", "is_done": "(self)"},
 }
 
 
@@ -44,6 +60,14 @@ class InterfaceTest(unittest.TestCase):
                         self.assertTrue(is_kind(value))
                         self.assertEqual(value.__module__, module.__name__)
                         self.assertEqual(str(inspect.signature(value)), arguments)
+
+    def test_methods(self):
+        for (name, word), listed in METHODS.items():
+            kind = getattr(importlib.import_module(f"sixdot.{name}"), word)
+            for method, arguments in listed.items():
+                with self.subTest(f"{word}.{method}"):
+                    self.assertIn(method, vars(kind))
+                    self.assertEqual(str(inspect.signature(vars(kind)[method])), arguments)
 
 
 if __name__ == "__main__":
