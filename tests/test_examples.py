@@ -55,10 +55,46 @@ raises SeveralTexts
 >>> answer[0], accepts_paper(other, answer[1]), accepts_paper(table, answer[1])
 ('readable', True, False)
 """,
-    "shape": r"""
+    "lines": r"""
+>>> from sixdot.lines import break_row, cost_of, is_broken, unbroken
+>>> from sixdot.shape import Marks, Shape
+>>> shape = Shape(8, 4, 10, Marks([40], [41], [[42], [43], [44]], [45], [46], [47], [48], [49]))
+>>> lines = break_row(shape, (41,), [1, 2, 3, 0, 4, 5, 6, 7, 0, 8])
+>>> lines, cost_of(shape, lines)
+([(41, 1, 2, 3), (47, 4, 5, 6, 7, 0, 8)], 16)
+>>> is_broken(shape, (41,), [1, 2, 0, 3], [(41, 1, 2), (47, 3)]), is_broken(shape, (41,), [1, 2, 0, 3], [(41, 1), (48, 2, 0, 3)])
+(True, True)
+>>> unbroken(shape, lines, (41,))
+[1, 2, 3, 0, 4, 5, 6, 7, 0, 8]
+""",
+    "pages and shape": r"""
+>>> from sixdot.pages import make_prices, may_end, page_ends
+>>> blocks = [("head", "a"), ("par", "b"), ("par", "c")]
+>>> [may_end(blocks, [1, 2, 4], at) for at in range(1, 8)]
+[False, False, True, False, True, False, True]
+>>> page_ends(5, blocks, [1, 2, 4])
+[3, 7]
+>>> make_prices(5, blocks, [1, 2, 4])[0]
+1
 >>> from sixdot.shape import figures, label_row
 >>> figures(10), label_row((2, 0, 1))
 ([2, 1], [3, 11, 1, 11, 2])
+""",
+    "back": r"""
+>>> from sixdot.back import form_fault, is_layout, read_back, rows_back
+>>> from sixdot.shape import Marks, Shape
+>>> from sixdot.table import Rule, Table
+>>> marks = Marks([60], [61], [[62, 1], [62, 2], [62, 3]], [63], [59], [58], [57], [56])
+>>> shape = Shape(8, 4, 2, marks)
+>>> table = Table("ab ", 1, [Rule(0, "a", [1], 0), Rule(0, "b", [2], 0), Rule(0, " ", [0], 0)])
+>>> front = ((60, 1, 2), (61, 1), (58, 2), (56, 2))
+>>> volumes = [[((1,), front, ())]]
+>>> rows_back(shape, volumes)
+[(('head',), [1, 2], (0, 0, 0, 0)), (('par',), [1, 0, 2], (0, 0, 0, 1))]
+>>> read_back(shape, table, volumes).blocks, is_layout(shape, table, volumes)
+([('head', 'ab'), ('par', 'a b')], True)
+>>> form_fault(shape, [[((1,), front[:3], ())]])
+((0, 0, 0, 2), 'number')
 """,
 }
 

@@ -29,6 +29,23 @@ FUNCTIONS = {
         "decide": "(table)",
     },
     "shape": {"figures": "(number)", "label_row": "(label)", "block_mark": "(shape, block)"},
+    "lines": {
+        "break_row": "(shape, mark, row)", "is_broken": "(shape, mark, row, lines)", "cost_of": "(shape, lines)",
+        "make_line_prices": "(shape, mark, row)", "accepts_line_prices": "(shape, mark, row, prices)",
+        "unbroken": "(shape, lines, mark)",
+    },
+    "pages": {
+        "may_end": "(blocks, lines, at)", "page_ends": "(height, blocks, lines)", "make_prices": "(height, blocks, lines)",
+        "accepts_prices": "(height, blocks, lines, ends, prices)",
+    },
+    "volumes": {
+        "book_lines": "(shape, table, book)", "bind": "(shape, pages, labels)", "sheets_needed": "(shape, pages)",
+        "lay_out": "(shape, table, book)",
+    },
+    "back": {
+        "form_fault": "(shape, volumes)", "rows_back": "(shape, volumes)", "is_layout": "(shape, table, volumes)",
+        "read_back": "(shape, table, volumes)",
+    },
 }
 CLASSES = {
     "table": {
