@@ -1,7 +1,7 @@
 """Shapes with their marks, and how numbers, labels and the beginnings of blocks are pressed."""
 
 from sixdot.errors import InvalidShape
-from sixdot.table import MOST_CELL
+from sixdot.table import MOST_CELL, MOST_NUMBERS
 
 LEAST_WIDTH = 8
 MOST_WIDTH = 40
@@ -9,7 +9,6 @@ LEAST_HEIGHT = 3
 MOST_HEIGHT = 30
 MOST_SIZE = 50
 MOST_MARK_CELLS = 2
-MOST_DEPTH = 3
 
 # What stands between two numbers of a label: a cell that presses no digit.
 LABEL_CELL = 11
@@ -84,7 +83,7 @@ def are_marks(marks):
     """Returns True if a shape may have these marks."""
     rows = rows_of_marks(marks)
     return (
-        len(marks.depths) == MOST_DEPTH
+        len(marks.depths) == MOST_NUMBERS["item"]
         and all([is_mark(row) for row in rows])
         and are_apart(rows)
         and len(marks.on) == len(marks.joined)

@@ -234,6 +234,8 @@ class UnbrokenTest(unittest.TestCase):
         self.assertEqual(unbroken(shape, [(41, 0)], (41,)), [0])
         self.assertEqual(unbroken(shape, [(41, 1), (47, 2), (48, 3), (48, 0), (47, 0)], (41,)), [1, 0, 2, 3, 0, 0, 0])
         self.assertEqual(unbroken(shape, [(45, 3, 0, 1), (48, 41)], (45, 3, 0)), [1, 41])
+        # Ahead of the first line nothing is left out, whatever its mark is.
+        self.assertEqual(unbroken(shape, [(47, 1), (47, 2)], (47,)), [1, 0, 2])
         # The width is not looked at.
         self.assertEqual(unbroken(shape, [(41,) + (5,) * 20], (41,)), [5] * 20)
 

@@ -43,6 +43,11 @@ class MayEndTest(unittest.TestCase):
         self.assertEqual(self.ends([BREAK], [1]), [1])
         self.assertEqual(self.ends([BREAK, BREAK, PAR, BREAK], [1, 1, 2, 1]), [1, 2, 4, 5])
 
+    def test_texts_that_are_words_of_blocks(self):
+        self.assertEqual(self.ends([("par", "head"), ("par", "break")], [1, 4]), [1, 3, 5])
+        self.assertEqual(self.ends([("head", "break"), ("head", "par")], [1, 1]), [2])
+        self.assertEqual(page_ends(5, [("par", "break"), ("item", 1, "break"), PAR], [1, 1, 1]), [3])
+
     def test_by_chance(self):
         for seed in range(300):
             blocks, lines = made_lines(random.Random(seed), 30)
@@ -179,6 +184,11 @@ class PricesTest(unittest.TestCase):
     def test_the_price_of_the_end(self):
         self.assertIs(self.accepts(self.ends, [price + 1 for price in self.prices]), False)
         self.assertIs(self.accepts(self.ends, [price - 1 for price in self.prices]), False)
+
+    def test_prices_that_are_too_low_alike(self):
+        # All that fails is that the last page costs as much as its prices differ.
+        prices = [price - 1 for price in self.prices[:-1]] + [0]
+        self.assertIs(self.accepts(self.ends, prices), False)
 
     def test_other_pages(self):
         for ends in [

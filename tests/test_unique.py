@@ -210,6 +210,8 @@ class PaperTest(unittest.TestCase):
         # Without ways on, any lead will do, if the pair cannot end.
         self.assertIs(self.accepts(kept + [((4, 1), (2, 1), (0, "zz"))], hopeless), True)
         self.assertIs(self.accepts(kept + [((4, 1), (2, 1), (1, "%"))], hopeless), True)
+        for lead in [(2, "b"), (-1, "b"), (2, ""), (1, "")]:
+            self.assertIs(self.accepts(kept + [((4, 1), (2, 1), lead)], hopeless), False)
         self.assertIs(self.accepts(kept + [((2, 2), (2, 2), (0, "a"))], hopeless), False)
         self.assertIs(self.accepts(kept + [((0, 1), (2, 1), (1, "c"))], hopeless), False)
 

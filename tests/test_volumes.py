@@ -56,6 +56,13 @@ class LinesTest(unittest.TestCase):
             [(60,) + (3,) * 7, (57, 3, 3)],
         ])
 
+    def test_texts_that_are_words_of_blocks(self):
+        table = Table("breakhdpit", 1, [Rule(0, sign, [at + 1], 0) for at, sign in enumerate("breakhdpit")])
+        book = Book([("par", "break"), ("head", "break"), ("item", 1, "break"), ("break",), ("par", "head"), ("note", 5, "par")])
+        lines = book_lines(self.shape, table, book)
+        self.assertEqual(lines[:4], [[(61, 1, 2, 3, 4, 5)], [(60, 1, 2, 3, 4, 5)], [(62, 1, 1, 2, 3, 4, 5)], [(59,)]])
+        self.assertEqual(read_back(self.shape, table, lay_out(self.shape, table, book)).blocks, book.blocks)
+
     def test_a_text_without_a_writing(self):
         for at in range(3):
             blocks = [("par", "a"), ("break",), ("item", 2, "b")]
