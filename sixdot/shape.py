@@ -2,6 +2,7 @@
 
 from sixdot.errors import InvalidShape
 from sixdot.table import MOST_CELL, MOST_NUMBERS
+from sixdot.words import number_word
 
 LEAST_WIDTH = 8
 MOST_WIDTH = 40
@@ -92,7 +93,7 @@ def are_marks(marks):
 
 def figures(number):
     """Returns the row of a number, the list of the cells of its digits."""
-    return [int(digit) + 1 for digit in str(number)]
+    return [int(digit) + 1 for digit in number_word(number)]
 
 
 def label_row(label):
@@ -102,6 +103,16 @@ def label_row(label):
         row.append(LABEL_CELL)
         row.extend(figures(number))
     return row
+
+
+def is_label(label):
+    """Returns True if a tuple of integers is a label."""
+    return len(label) > 0 and all([number >= 0 for number in label]) and label[-1] >= 1
+
+
+def number_line(shape, label):
+    """Returns the number line of a sheet with the label."""
+    return shape.marks.number + tuple(label_row(label))
 
 
 def block_mark(shape, block):

@@ -4,6 +4,10 @@ from sixdot.table import cell_of
 
 DOTS = "123456"
 
+# A number is written in parts of so many digits, as str takes only numbers of some thousand digits.
+PART_DIGITS = 64
+PART = 10 ** 64
+
 
 def lines_of(text):
     """Returns the list of the lines of a text, without their newlines."""
@@ -22,6 +26,16 @@ def number_of(word, digits):
     if word[0] == "0" and word != "0":
         return None
     return int(word)
+
+
+def number_word(number):
+    """Returns the decimal digits of a number of at least 0, however many they are."""
+    parts = []
+    while number >= PART:
+        number, part = divmod(number, PART)
+        parts.append(str(part).zfill(PART_DIGITS))
+    parts.append(str(number))
+    return "".join(reversed(parts))
 
 
 def cell_of_word(word):

@@ -1,6 +1,7 @@
 """The texts of tables and the markups of books, written."""
 
 from sixdot.table import dots_of
+from sixdot.words import number_word
 
 
 def write_cell(cell):
@@ -38,6 +39,11 @@ def write_table(table):
     return ended(first + [write_rule(rule) for rule in table.rules])
 
 
+def write_block(block):
+    """Returns the line of a block."""
+    return " ".join([part if isinstance(part, str) else number_word(part) for part in block])
+
+
 def write_book(book):
     """Returns the markup of a book."""
-    return ended([" ".join([str(part) for part in block]) for block in book.blocks])
+    return ended([write_block(block) for block in book.blocks])

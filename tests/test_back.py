@@ -173,6 +173,24 @@ class FormTest(unittest.TestCase):
         self.assertEqual(self.fault([[((1,), ((61,),) * 6, ())]]), ((0, 0, 0), "lines"))
         self.assertEqual(self.fault([[sheet((1,), [(61, 1)])], []]), ((1,), "size"))
 
+    def test_great_numbers_in_labels(self):
+        great, row = 10 ** 4999, (2, *[1] * 4999)
+        line = (61, 1)
+        right = ((great,), (line, (56, *row)), ())
+        self.assertIsNone(form_fault(SHAPE, [[right]]))
+        self.assertEqual(rows_back(SHAPE, [[right]]), [(("par",), [1], (0, 0, 0, 0))])
+        self.assertEqual(read_back(SHAPE, TABLE, [[right]]).blocks, [("par", "a")])
+        self.assertIs(is_layout(SHAPE, TABLE, [[right]]), True)
+        for wrong in [(56, 2), (56, *row, 1), (56, *row[:-1]), (56, *row[:-1], 2), ()]:
+            volumes = [[((great,), (line, wrong), ())]]
+            self.assertEqual(form_fault(SHAPE, volumes), ((0, 0, 0, 1), "number"))
+            self.assertIs(is_layout(SHAPE, TABLE, volumes), False)
+            with self.assertRaises(Unreadable):
+                read_back(SHAPE, TABLE, volumes)
+        back = ((great, great), (line, (56, *row, 11, *row)), (line, (56, *row)))
+        self.assertEqual(form_fault(SHAPE, [[right, back]]), ((0, 1, 1, 1), "number"))
+        self.assertEqual(form_fault(SHAPE, [[right, ((great - 1,), (line, (56, *[10] * 4999)), ())]]), ((0, 1), "label"))
+
     def test_marks_of_two_cells(self):
         marks = Marks([60, 0], [61, 0], [[62, 1], [62, 2], [62, 3]], [63, 0], [59, 0], [58, 0], [58, 1], [56, 0])
         shape = Shape(8, 5, 2, marks)

@@ -1,9 +1,10 @@
 """Points 29 and 30, the beginnings of point 31, and the interface of sixdot/shape.py."""
 
+import random
 import unittest
 
 from sixdot.errors import InvalidShape
-from sixdot.shape import Marks, Shape, block_mark, figures, label_row
+from sixdot.shape import Marks, Shape, block_mark, figures, label_row, number_line
 
 NAMES = ["head", "par", "note", "stop", "on", "joined", "number"]
 
@@ -131,6 +132,33 @@ class RowsTest(unittest.TestCase):
             [2, 1], [5, 3], [10, 10], [2, 1, 1], [3, 1, 1, 7],
         ])
         self.assertEqual(figures(10 ** 30), [2] + [1] * 30)
+
+    def test_great_numbers(self):
+        # Greater ones than str takes.
+        self.assertEqual(figures(10 ** 4299), [2] + [1] * 4299)
+        self.assertEqual(figures(10 ** 4300), [2] + [1] * 4300)
+        self.assertEqual(figures(10 ** 4300 - 1), [10] * 4300)
+        self.assertEqual(figures(10 ** 4999), [2] + [1] * 4999)
+        self.assertEqual(figures(7 * 10 ** 4999 + 12), [8] + [1] * 4997 + [2, 3])
+        self.assertEqual(figures(10 ** 20000 + 10 ** 64), [2] + [1] * 19935 + [2] + [1] * 64)
+
+    def test_numbers_of_all_lengths(self):
+        chance = random.Random(30)
+        for many in [*range(1, 200), 1000, 4299, 4300, 4301, 6000]:
+            for digits in ([1] + [0] * (many - 1), [9] * many, [chance.randint(1, 9)] + chance.choices([0, 0, 0, 5, 9], k=many - 1)):
+                number = 0
+                for digit in digits:
+                    number = 10 * number + digit
+                self.assertEqual(figures(number), [digit + 1 for digit in digits])
+
+    def test_labels_of_great_numbers(self):
+        great = 10 ** 4999
+        row = [2] + [1] * 4999
+        self.assertEqual(label_row((great,)), row)
+        self.assertEqual(label_row((3, great, 1)), [4, 11, *row, 11, 2])
+        self.assertEqual(label_row((great, 0, great)), [*row, 11, 1, 11, *row])
+        self.assertEqual(number_line(made(), (great, 2)), (56, *row, 11, 3))
+        self.assertEqual(block_mark(made(), ("note", great, "a")), (63, *row, 0))
 
     def test_labels(self):
         for label, row in [

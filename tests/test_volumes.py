@@ -126,6 +126,11 @@ class BindTest(unittest.TestCase):
         label = (100000, 0, 1)
         self.assertEqual(bind(self.shape, [[(61, 1)]], [label])[0][0][1][-1], (56, 2, 1, 1, 1, 1, 1, 11, 1, 11, 2))
 
+    def test_a_label_with_a_great_number(self):
+        volumes = bind(self.shape, [[(61, 1)], [(61, 2)]], [(10 ** 5000, 7)])
+        line = (56, 2, *[1] * 5000, 11, 8)
+        self.assertEqual(volumes, [[((10 ** 5000, 7), ((61, 1), line), ((61, 2), line))]])
+
     def test_volumes_and_their_sheets(self):
         for size in (1, 2, 3):
             shape = Shape(8, 4, size, MARKS)

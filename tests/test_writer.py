@@ -77,6 +77,9 @@ class WriterTest(unittest.TestCase):
         wanted = 'head A b\npar ~ "\\\nitem 3 3 c\nnote 99 d\nbreak\nnote 1 e\n'
         self.assertEqual(write_book(Book(blocks)), wanted)
 
+    def test_a_label_that_is_a_great_number(self):
+        self.assertEqual(write_book(Book([("note", 10 ** 5000, "a"), ("note", 0, "b")])), f"note 1{'0' * 5000} a\nnote 0 b\n")
+
     def test_tables_there_and_back(self):
         chance = random.Random(1)
         for _ in range(60):
