@@ -2,9 +2,8 @@
 
 from sixdot.errors import Unreadable
 from sixdot.reading import MOST_TEXTS, texts_of
-from sixdot.shape import figures
+from sixdot.shape import figures, is_label, number_line
 from sixdot.table import MOST_BLOCKS, MOST_CELL, MOST_NUMBERS, Book, is_text
-from sixdot.volumes import number_line
 
 
 def line_kinds(shape):
@@ -40,11 +39,6 @@ def parts_of(shape, line):
         label = note_label(cells)
         return ("note", label), cells[len(figures(label)) + 1:]
     return kind, cells
-
-
-def is_label(label):
-    """Returns True if a tuple of integers is a label."""
-    return len(label) > 0 and all([number >= 0 for number in label]) and label[-1] >= 1
 
 
 class Form:

@@ -1,30 +1,18 @@
 """Books, laid out: their lines, and the sheets with their pages, bound into volumes."""
 
-from sixdot.errors import NoWriting
 from sixdot.lines import break_row
 from sixdot.pages import page_ends
-from sixdot.shape import block_mark, label_row
-from sixdot.writing import best_writing
+from sixdot.places import rows_of
+from sixdot.shape import block_mark, number_line
 
 
 def book_lines(shape, table, book):
     """Returns a list with the list of the lines of each block, with which the book is laid out."""
     found = []
-    for number, block in enumerate(book.blocks):
+    for block, row in zip(book.blocks, rows_of(table, book)):
         mark = block_mark(shape, block)
-        if block[0] == "break":
-            found.append([mark])
-        else:
-            best = best_writing(table, block[-1])
-            if best is None:
-                raise NoWriting(number)
-            found.append(break_row(shape, mark, best[0]))
+        found.append([mark] if block[0] == "break" else break_row(shape, mark, row))
     return found
-
-
-def number_line(shape, label):
-    """Returns the number line of a sheet with the label."""
-    return shape.marks.number + tuple(label_row(label))
 
 
 def sides_of(shape, pages):
@@ -41,15 +29,22 @@ def sides_of(shape, pages):
     return sides
 
 
+def made_sheet(shape, label, sides):
+    """Returns the sheet with a label and the lines of the book of its front and of its back, if it has any."""
+    last = number_line(shape, label)
+    front = tuple(sides[0]) + (last,)
+    back = tuple(sides[1]) + (last,) if len(sides) == 2 else ()
+    return (label, front, back)
+
+
+def in_volumes(shape, sheets):
+    """Returns the volumes for a list of sheets."""
+    return [sheets[at:at + shape.size] for at in range(0, len(sheets), shape.size)]
+
+
 def bind(shape, pages, labels):
     """Returns the volumes for a list of pages, each a list of lines of the book, with these labels of their sheets."""
-    sheets = []
-    for label, sides in zip(labels, sides_of(shape, pages)):
-        last = number_line(shape, label)
-        front = tuple(sides[0]) + (last,)
-        back = tuple(sides[1]) + (last,) if len(sides) == 2 else ()
-        sheets.append((label, front, back))
-    return [sheets[at:at + shape.size] for at in range(0, len(sheets), shape.size)]
+    return in_volumes(shape, [made_sheet(shape, label, sides) for label, sides in zip(labels, sides_of(shape, pages))])
 
 
 def sheets_needed(shape, pages):

@@ -96,6 +96,18 @@ raises SeveralTexts
 >>> form_fault(shape, [[((1,), front[:3], ())]])
 ((0, 0, 0, 2), 'number')
 """,
+    "press": r"""
+>>> from sixdot.press import Heap, Press
+>>> heap = Heap()
+>>> press = Press([("one",), ("two",)], heap)
+>>> [press.step() for turn in range(5)], press.inside(), press.journal()
+(['feed', 'front', 'turn', 'back', 'drop'], None, '')
+>>> again = Press([("one",), ("two",)], heap, journal="don")
+>>> [again.step() for turn in range(8)], again.journal()
+(['note', 'feed', 'front', 'turn', 'back', 'drop', 'note', 'over'], 'done 0\ndone 1\n')
+>>> heap.sheets(), heap.dropped()
+([('one',), ('two',)], 2)
+""",
 }
 
 

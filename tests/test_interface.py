@@ -46,6 +46,15 @@ FUNCTIONS = {
         "form_fault": "(shape, volumes)", "rows_back": "(shape, volumes)", "is_layout": "(shape, table, volumes)",
         "read_back": "(shape, table, volumes)",
     },
+    "places": {
+        "rows_of": "(table, book)", "places": "(rows, book)", "line_ends": "(shape, book, rows, place, line)",
+        "sheet_ends": "(shape, book, rows, place, sheet)", "farthest": "(shape, book, rows, place, end)",
+    },
+    "change": {
+        "least_size": "(shape, table, volumes, book)", "renew": "(shape, table, volumes, book)",
+        "labels_between": "(before, after, number)", "make_bounds": "(shape, table, volumes, book)",
+        "accepts_bounds": "(shape, table, volumes, book, bounds)",
+    },
 }
 CLASSES = {
     "table": {
@@ -60,9 +69,12 @@ CLASSES = {
     "shape": {
         "Marks": "(head, par, depths, note, stop, on, joined, number)", "Shape": "(width, height, size, marks)",
     },
+    "press": {"Heap": "()", "Press": "(sheets, heap, *, journal='')"},
 }
 METHODS = {
     ("reading", "Reader"): {"step": "(self, cell)", "spots": "(self)", "is_done": "(self)"},
+    ("press", "Heap"): {"drop": "(self, sheet)", "fall": "(self)", "sheets": "(self)", "dropped": "(self)"},
+    ("press", "Press"): {"step": "(self)", "jam": "(self)", "journal": "(self)", "inside": "(self)"},
 }
 
 
