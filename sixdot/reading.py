@@ -91,14 +91,27 @@ class Courses:
                     before[further].append(spot)
         return before
 
+    def distinct(self, spots):
+        """Returns the list of some of the spots, one of those that go on alike."""
+        found = {self.bearing(spot): spot for spot in spots}
+        return list(found.values())
+
     def further_spots(self, spots, cell):
         """Returns the ascending list of the spots to which one of these goes on by the cell."""
-        distinct = {self.bearing(spot): spot for spot in spots}
         found = {}
-        for spot in list(distinct.values()):
+        for spot in self.distinct(spots):
             for further in self.goes_on(spot).get(cell, []):
                 found[further] = True
         return sorted(found)
+
+    def all_further(self, spots):
+        """Returns a dict from cells to the ascending tuples of the spots to which one of these goes on by them."""
+        found = {}
+        for spot in self.distinct(spots):
+            for cell, further in self.goes_on(spot).items():
+                for one in further:
+                    found.setdefault(cell, {})[one] = True
+        return {cell: tuple(sorted(found[cell])) for cell in found}
 
 
 def next_spots(table, spot, cell):

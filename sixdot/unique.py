@@ -180,12 +180,13 @@ def is_hopeful(table, pair):
     return pairs.hopeful_pairs()[pair[0]] & pairs.digits[pair[1]] != 0
 
 
-def is_paper(table, paper):
-    """Returns True if all that a paper tells is of spots of the table, and its leads are leads."""
-    kept, hopeless = paper
-    spots = [spot for first, second, _ in kept for spot in (first, second)]
-    spots.extend([spot for pair in hopeless for spot in pair])
-    return all([is_spot(table, spot) for spot in spots]) and all([is_lead(lead) for _, _, lead in kept])
+def are_of(first, second, kept, hopeless):
+    """Returns True if all pairs are of spots of the first and the second table, and all leads are leads."""
+    pairs = [(one, other) for one, other, _ in kept] + hopeless
+    return (
+        all([is_spot(first, one) and is_spot(second, other) for one, other in pairs])
+        and all([is_lead(lead) for _, _, lead in kept])
+    )
 
 
 def are_kept(pairs, kept, lost):
@@ -206,20 +207,25 @@ def are_kept(pairs, kept, lost):
     return True
 
 
-def accepts_paper(table, paper):
-    """Returns True if the paper is accepted."""
-    if not is_paper(table, paper):
+def accepts_pairs(first, second, kept, hopeless):
+    """Returns True if lists of kept and of hopeless pairs of spots of two tables are accepted as those of a paper."""
+    if not are_of(first, second, kept, hopeless):
         return False
-    courses = Courses(table)
-    pairs = Pairs(courses, courses)
-    kept = {told: True for told in paper[0]}
-    lost = pairs.set_of(paper[1])
+    pairs = Pairs(Courses(first), Courses(second))
+    told = {one: True for one in kept}
+    lost = pairs.set_of(hopeless)
     return (
-        START in kept
-        and all([lead == EQUAL for first, second, lead in kept if pairs.can_end((first, second))])
-        and are_kept(pairs, kept, lost)
+        START in told
+        and all([lead == EQUAL for one, other, lead in told if pairs.can_end((one, other))])
+        and are_kept(pairs, told, lost)
         and pairs.is_lost(lost)
     )
+
+
+def accepts_paper(table, paper):
+    """Returns True if the paper is accepted."""
+    kept, hopeless = paper
+    return accepts_pairs(table, table, kept, hopeless)
 
 
 class Search:
@@ -228,9 +234,8 @@ class Search:
     A lead that broke is None from there on: such a tuple is followed further, as it can lead to two texts.
     """
 
-    def __init__(self, table):
-        courses = Courses(table)
-        self.pairs = Pairs(courses, courses)
+    def __init__(self, first, second):
+        self.pairs = Pairs(first, second)
         self.hopeful = self.pairs.hopeful_pairs()
         self.ending = self.pairs.ending_pairs()
         self.hopeless = {}
@@ -279,7 +284,8 @@ class Search:
 
 def decide(table):
     """Returns ("readable", paper), or ("same", row, first, second) with the least row that has two texts."""
-    search = Search(table)
+    courses = Courses(table)
+    search = Search(courses, courses)
     rows = [([], [START])]
     # The rows of a length are taken in ascending order, each with the tuples that it is the first one to meet: so the
     # first row that is found to have two texts is the least one of the shortest.

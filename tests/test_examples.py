@@ -1,7 +1,10 @@
 """The examples of the interface, as they stand in the document."""
 
+import pathlib
+import re
 import unittest
 
+README = pathlib.Path(__file__).resolve().parent.parent / "README.md"
 EXAMPLES = {
     "reader and writer": r"""
 >>> from sixdot.reader import read_book, read_table
@@ -108,6 +111,39 @@ raises SeveralTexts
 >>> heap.sheets(), heap.dropped()
 ([('one',), ('two',)], 2)
 """,
+    "binder": r"""
+>>> from sixdot.binder import filled, missing
+>>> missing(["a", "b", "a", "c"], ["a", "c"]), filled(["a", "b"], ["b"], ["a"])
+([1, 2], ['a', 'b'])
+>>> missing(["a", "b"], ["b", "a"])
+raises StrangeSheet
+""",
+    "compare": r"""
+>>> from sixdot.compare import accepts_cross_paper, compare, useless_rules
+>>> from sixdot.table import Rule, Table
+>>> one = Table("ab", 1, [Rule(0, "a", [1], 0), Rule(0, "b", [2], 0), Rule(0, "ab", [1, 2], 0)])
+>>> two = Table("ba", 2, [Rule(0, "b", [2], 0), Rule(0, "a", [1], 0), Rule(1, "b", [3], 0)])
+>>> answer = compare(one, two)
+>>> answer[0], accepts_cross_paper(one, two, answer[1]), useless_rules(two)
+('same', True, [2])
+>>> compare(one, Table("ab", 1, [Rule(0, "a", [1], 0), Rule(0, "b", [2], 0, ahead="a")]))
+('apart', [2], ['b'], [])
+""",
+    "desk": r"""
+>>> from sixdot.desk import Desk
+>>> desk = Desk()
+>>> lines = ['signs "ab "', "modes 1", 'rule 0 "a" = 1 to 0', 'rule 0 "b" = 12 to 0', 'rule 0 " " = - to 0']
+>>> [desk.obey("text " + line) for line in lines][4], desk.obey("table"), desk.obey("shape 8 4 2")
+(['lines 5'], ['table 3'], ['shape'])
+>>> desk.obey("write ab a"), desk.obey("texts 1 12 - 1"), desk.obey("readable")
+(['1 12 - 1'], ['"ab a"'], ['yes'])
+>>> desk.obey("text head ab"), desk.obey("text par a b"), desk.obey("book"), desk.obey("lay"), desk.obey("back")
+(['lines 1'], ['lines 2'], ['book 2'], ['sheets 1 in 1'], ['same'])
+>>> desk.obey("sheet 0 0")
+['label 1', 'front', '3456 1 12', '13456 1 - 12', '456 2']
+>>> desk.obey("fall 0 0"), desk.obey("back")
+(['sheets 0 in 0'], ['fault empty'])
+""",
 }
 
 
@@ -138,6 +174,13 @@ class ExamplesTest(unittest.TestCase):
             names = {}
             for step, told in steps_of(example):
                 with self.subTest(f"{title}: {step}"):
+                    self.check(step, told, names)
+
+    def test_how_to_use_it(self):
+        for example in re.findall(r"```\n(.*?)```", README.read_text("utf-8"), re.DOTALL):
+            names = {}
+            for step, told in steps_of(example):
+                with self.subTest(step):
                     self.check(step, told, names)
 
 

@@ -55,6 +55,13 @@ FUNCTIONS = {
         "labels_between": "(before, after, number)", "make_bounds": "(shape, table, volumes, book)",
         "accepts_bounds": "(shape, table, volumes, book, bounds)",
     },
+    "binder": {"missing": "(wanted, lying)", "filled": "(wanted, lying, more)"},
+    "compare": {
+        "agree": "(first, second, row)", "compare": "(first, second)", "accepts_cross_paper": "(first, second, paper)",
+        "useless_rules": "(table)", "without_rules": "(table, numbers)",
+    },
+    "report": {"row_line": "(row)", "label_word": "(label)", "sheet_lines": "(sheet)", "read_row": "(words)"},
+    "desk": {"answers_of": "(lines)"},
 }
 CLASSES = {
     "table": {
@@ -70,11 +77,13 @@ CLASSES = {
         "Marks": "(head, par, depths, note, stop, on, joined, number)", "Shape": "(width, height, size, marks)",
     },
     "press": {"Heap": "()", "Press": "(sheets, heap, *, journal='')"},
+    "desk": {"Desk": "()"},
 }
 METHODS = {
     ("reading", "Reader"): {"step": "(self, cell)", "spots": "(self)", "is_done": "(self)"},
     ("press", "Heap"): {"drop": "(self, sheet)", "fall": "(self)", "sheets": "(self)", "dropped": "(self)"},
     ("press", "Press"): {"step": "(self)", "jam": "(self)", "journal": "(self)", "inside": "(self)"},
+    ("desk", "Desk"): {"obey": "(self, line)", "lines": "(self)", "volumes": "(self)", "book": "(self)"},
 }
 
 
