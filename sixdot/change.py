@@ -1,8 +1,11 @@
 """Books that are changed: which of the old sheets can stay, the fewest new ones, and bounds that show it."""
 
-from sixdot.places import ON, beginning, leads_to, places, rows_of, sheet_ends
-from sixdot.stretches import Stretches
+from sixdot.places import beginning, ends_of_lines, has_pages, leads_to, places, rows_of
+from sixdot.stretches import Stretches, Windows
 from sixdot.volumes import in_volumes, made_sheet
+
+# If more than one of so many places is asked for, it takes less to find the best renewals from all places on.
+SHARE = 16
 
 
 class Change:
@@ -21,6 +24,9 @@ class Change:
         self.old = [sheet for volume in volumes for sheet in volume]
         self.all_places = places(rows, book)
         self.stretches = Stretches(shape, book, rows)
+        # What is worked out when it is asked for.
+        self.windows = None
+        self.known_stays = {}
         # From the first cells of lines to pairs of a place from which such lines can lead, and the longest one of them.
         self.longest = {}
         for place in self.all_places[:-1]:
@@ -41,14 +47,21 @@ class Change:
     def stays_of(self, number):
         """Returns a dict from the places at which an old sheet can stay to the lists of those to which it leads; an
         empty one for the number of the old sheets."""
-        return self.stays(self.old[number]) if number < len(self.old) else {}
+        if number == len(self.old) or not has_pages(self.shape, self.old[number]):
+            return {}
+        _, front, back = self.old[number]
+        # Sheets that are equal but for their labels can stay at the same places.
+        lines = (front[:-1], back[:-1])
+        if lines not in self.known_stays:
+            self.known_stays[lines] = self.stays_with(front[:-1], back[:-1])
+        return self.known_stays[lines]
 
-    def stays(self, sheet):
-        """Returns a dict from the places at which a sheet can stay to the lists of those to which it leads."""
-        _, front, _ = sheet
+    def stays_with(self, front, back):
+        """Returns a dict from the places from which the lines of a front and a back lead on to lists of their ends."""
         found = {}
-        for place in self.places_of(front[0]) if front else []:
-            ends = sheet_ends(self.shape, self.book, self.rows, place, sheet)
+        for place in self.places_of(front[0]):
+            behind = ends_of_lines(self.shape, self.book, self.rows, [place], front)
+            ends = ends_of_lines(self.shape, self.book, self.rows, behind, back)
             if ends:
                 found[place] = ends
         return found
@@ -58,26 +71,29 @@ class Change:
         # From places to the best renewals from there on in which, but at the last place, an old sheet stays there.
         known = {self.all_places[-1]: (0, 0, (), (), ())}
         for number in range(len(self.old) - 1, -1, -1):
-            begins = sorted(known)
-            found = {}
-            for place, ends in self.stays_of(number).items():
-                found[place] = min([self.best_with(number, place, end, known, begins) for end in ends])
-            for place, renewal in found.items():
+            stays = self.stays_of(number)
+            rests = self.best_from(sorted({end for ends in stays.values() for end in ends}), known)
+            for place, ends in stays.items():
+                renewal = min([with_stay(number, place, end, rests[end]) for end in ends])
                 known[place] = min(renewal, known.get(place, renewal))
-        return self.best_from(self.all_places[0], known, sorted(known))
+        first = self.all_places[0]
+        return self.best_from([first], known)[first]
 
-    def best_with(self, number, place, end, known, begins):
-        """Returns the best renewal in which an old sheet leads from a place to another one, and later ones follow."""
-        size, many, numbers, places_before, places_behind = self.best_from(end, known, begins)
-        return size, many - 1, (number,) + numbers, (place,) + places_before, (end,) + places_behind
+    def best_from(self, begins, known):
+        """Returns a dict from some places to the best renewals from there on."""
+        if len(begins) * SHARE > len(self.all_places):
+            found = self.best_from_all(known)
+            return {place: found[place] for place in begins}
+        later = sorted(known)
+        return {place: self.best_from_one(place, known, later) for place in begins}
 
-    def best_from(self, place, known, begins):
-        """Returns the best renewal from a place on; begins is the ascending list of the places that are known."""
+    def best_from_one(self, place, known, later):
+        """Returns the best renewal from a place on; later is the ascending list of the places that are known."""
         best = None
         size = 0
         last = place
         lacking = None
-        for begin in begins:
+        for begin in later:
             if not leads_to(place, begin):
                 continue
             while begin > last:
@@ -85,56 +101,63 @@ class Change:
                 size += 1
             if best is not None and size > best[0]:
                 break
-            rest = known[begin]
-            further = (size + rest[0] + (1 if begin == lacking else 0),) + rest[1:]
+            further = with_new(size + (1 if begin == lacking else 0), known[begin])
             best = further if best is None else min(best, further)
         return best
+
+    def best_from_all(self, known):
+        """Returns a dict from all places to the best renewals from there on."""
+        if self.windows is None:
+            self.windows = Windows(self.stretches)
+        found = [None for _ in self.all_places]
+        for at in range(len(found) - 1, -1, -1):
+            ahead = self.windows.ahead(at, found)
+            options = [with_new(1, min(ahead))] if ahead else []
+            if self.all_places[at] in known:
+                options.append(known[self.all_places[at]])
+            found[at] = min(options)
+        return {place: renewal for place, renewal in zip(self.all_places, found)}
+
+
+def with_new(size, rest):
+    """Returns what is known of a renewal with so many new sheets ahead of the rest."""
+    return (size + rest[0],) + rest[1:]
+
+
+def with_stay(number, place, end, rest):
+    """Returns what is known of a renewal in which an old sheet leads from a place to another one, ahead of the rest."""
+    size, many, numbers, begins, ends = rest
+    return size, many - 1, (number,) + numbers, (place,) + begins, (end,) + ends
 
 
 class Limits:
     """How great the bounds of an old sheet and the places of a book can be, given those of what is further on."""
 
     def __init__(self, change):
-        self.change = change
-        self.numbers = {place: at for at, place in enumerate(change.all_places)}
-        self.windows = [self.window(place) for place in change.all_places]
-
-    def window(self, place):
-        """Returns a pair of the number behind the last place to which one new sheet can lead from a place, and the list
-        of the numbers of those up to it to which none can."""
-        last, lacking = self.change.stretches.sheet_reach(place)
-        block, cell, _ = place
-        others = [(block, cell, ON), (block, cell + 1, ON), lacking]
-        return self.numbers[last] + 1, [self.numbers[other] for other in others if other in self.numbers]
-
-    def new_bounds(self, at, bounds):
-        """Returns the list of the bounds of the places to which one new sheet can lead from that with the number."""
-        stop, left_out = self.windows[at]
-        if left_out:
-            return [bounds[number] for number in range(at + 1, stop) if number not in left_out]
-        return bounds[at + 1:stop]
+        self.all_places = change.all_places
+        self.windows = Windows(change.stretches)
 
     def limit(self, at, bounds, further, ends):
         """Returns the limit of the bound of the place with the number; the lists have the bounds of all places with its
         old sheet, and with the next one, if there is such a sheet; it leads from the place to the ends."""
-        ahead = self.new_bounds(at, bounds)
+        ahead = self.windows.ahead(at, bounds)
         found = [1 + min(ahead)] if ahead else []
         if further is not None:
             found.append(further[at])
-            found.extend([further[self.numbers[end]] for end in ends])
+            found.extend([further[self.windows.numbers[end]] for end in ends])
         # Nothing is further on than the last place, behind all old sheets.
         return min(found, default=0)
 
     def made(self, further, stays):
         """Returns the list of the greatest bounds of all places with an old sheet."""
-        found = [0 for _ in self.windows]
+        found = [0 for _ in self.all_places]
         for at in range(len(found) - 1, -1, -1):
-            found[at] = self.limit(at, found, further, stays.get(self.change.all_places[at], []))
+            found[at] = self.limit(at, found, further, stays.get(self.all_places[at], []))
         return found
 
     def hold(self, bounds, further, stays):
         """Returns True if none of the bounds of all places with an old sheet is below 0 or above its limit."""
-        for at, place in enumerate(self.change.all_places):
+        for at, place in enumerate(self.all_places):
             if not 0 <= bounds[at] <= self.limit(at, bounds, further, stays.get(place, [])):
                 return False
         return True

@@ -72,28 +72,34 @@ def line_ends(shape, book, rows, place, line):
     return places_at(row, block, end)
 
 
-def ends_of_page(shape, book, rows, place, page):
-    """Returns the ascending list of the places to which the lines of the book of a page lead from the place."""
-    lines = page[:-1]
+def ends_of_lines(shape, book, rows, begins, lines):
+    """Returns the ascending list of the places to which the lines of the book of a page lead from some places."""
     if shape.marks.stop in lines[:-1]:
         return []
-    found = [place]
+    found = begins
     for line in lines:
         found = sorted({end for begin in found for end in line_ends(shape, book, rows, begin, line)})
     return found
 
 
+def is_page(shape, label, page):
+    """Returns True if a page has as many lines as may be, and the number line of a sheet with the label at its end."""
+    return 2 <= len(page) <= shape.height and page[-1] == number_line(shape, label)
+
+
+def has_pages(shape, sheet):
+    """Returns True if the front of a sheet, which is not empty, and its back are pages."""
+    label, front, back = sheet
+    return is_label(label) and all([is_page(shape, label, page) for page in ([front, back] if back else [front])])
+
+
 def sheet_ends(shape, book, rows, place, sheet):
     """Returns the ascending list of the places to which the sheet leads from the place, if it can stay there."""
-    label, front, back = sheet
-    found = [place]
-    for page in [front, back] if back else [front]:
-        if not 2 <= len(page) <= shape.height:
-            return []
-        found = sorted({end for begin in found for end in ends_of_page(shape, book, rows, begin, page)})
-    if not is_label(label) or any([page and page[-1] != number_line(shape, label) for page in (front, back)]):
+    if not has_pages(shape, sheet):
         return []
-    return found
+    _, front, back = sheet
+    found = ends_of_lines(shape, book, rows, [place], front[:-1])
+    return ends_of_lines(shape, book, rows, found, back[:-1])
 
 
 def leads_to(place, end):

@@ -1,6 +1,6 @@
 """Stretches of new sheets between two places of a book: how they are filled, and how far one new sheet can lead."""
 
-from sixdot.places import JOINED, ON, beginning, cells_ahead, farthest, last_place
+from sixdot.places import JOINED, ON, beginning, cells_ahead, farthest, last_place, places
 
 
 class Stretches:
@@ -79,3 +79,28 @@ class Stretches:
             back, place = self.page_to(place, end)
             found.append([front, back] if back else [front])
         return found
+
+
+class Windows:
+    """The places to which one new sheet can lead, by the numbers of all places of a book, in ascending order."""
+
+    def __init__(self, stretches):
+        self.stretches = stretches
+        all_places = places(stretches.rows, stretches.book)
+        self.numbers = {place: at for at, place in enumerate(all_places)}
+        self.windows = [self.window(place) for place in all_places]
+
+    def window(self, place):
+        """Returns a pair of the number behind the last place to which one new sheet can lead from a place, and the list
+        of the numbers of those up to it to which none can."""
+        last, lacking = self.stretches.sheet_reach(place)
+        block, cell, _ = place
+        others = [(block, cell, ON), (block, cell + 1, ON), lacking]
+        return self.numbers[last] + 1, [self.numbers[other] for other in others if other in self.numbers]
+
+    def ahead(self, at, values):
+        """Returns the list of those values, one for each place, to whose places a new sheet can lead from a place."""
+        stop, left_out = self.windows[at]
+        if left_out:
+            return [values[number] for number in range(at + 1, stop) if number not in left_out]
+        return values[at + 1:stop]

@@ -6,7 +6,7 @@ import unittest
 import plain
 import plain_change
 from sixdot.back import form_fault, is_layout, read_back
-from sixdot.change import accepts_bounds, labels_between, least_size, make_bounds, renew
+from sixdot.change import Change, accepts_bounds, labels_between, least_size, make_bounds, renew
 from sixdot.errors import NoLayout, NoWriting
 from sixdot.places import leads_to, places, rows_of
 from sixdot.shape import Marks, Shape
@@ -313,6 +313,35 @@ class RenewTest(unittest.TestCase):
         found, labels = renew(shape, TABLE, volumes, pars("1", *texts[:60], "2", *texts[61:]))
         self.assertLess(len(labels), 5)
         self.assertEqual(read_back(shape, TABLE, found).blocks, pars("1", *texts[:60], "2", *texts[61:]).blocks)
+
+
+    def test_a_book_of_equal_blocks(self):
+        # Most sheets can stay at most places.
+        text = "1" * 190
+        volumes, labels = renew(SHAPE, TABLE, [], pars(*[text] * 10))
+        self.assertEqual(len(labels), 70)
+        found, labels = renew(SHAPE, TABLE, volumes, pars(*[text] * 9))
+        self.assertEqual((sheets_of(found), labels), (sheets_of(volumes)[:63], []))
+        found, labels = renew(SHAPE, TABLE, volumes, pars(*[text] * 4, "2", *[text] * 6))
+        self.assertEqual((labels_of(found), labels), (labels_of(volumes)[:28] + [(28, 1)] + labels_of(volumes)[28:], [(28, 1)]))
+        found, labels = renew(SHAPE, TABLE, volumes, pars(*[text] * 11))
+        self.assertEqual((len(sheets_of(found)), len(labels)), (77, 7))
+        self.assertEqual(read_back(SHAPE, TABLE, found).blocks, pars(*[text] * 11).blocks)
+
+    def test_the_best_renewals_from_one_place_and_from_all(self):
+        for seed in range(40):
+            chance = random.Random(seed)
+            shape, table = plain_change.made_shape(chance), plain_change.made_table(chance)
+            book = Book(plain_change.made_blocks(chance, chance.randint(1, 4)))
+            change = Change(shape, table, [], book)
+            last = change.all_places[-1]
+            known = {last: (0, 0, (), (), ())}
+            for place in chance.sample(change.all_places[:-1], len(change.all_places) // 3):
+                known[place] = (chance.randint(0, 3), -chance.randint(1, 2), (chance.randint(0, 5),), (place,), (last,))
+            found = change.best_from_all(known)
+            self.assertEqual(list(found), change.all_places)
+            for place in change.all_places:
+                self.assertEqual(change.best_from_one(place, known, sorted(known)), found[place])
 
 
 class StretchesTest(unittest.TestCase):

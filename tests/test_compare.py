@@ -87,6 +87,9 @@ class CompareTest(unittest.TestCase):
         self.assertEqual(told, "same")
         self.assertIs(accepts_cross_paper(first, second, paper), True)
         self.assertIs(plain_compare.accepts_cross_paper(first, second, paper), True)
+        # Nothing is told twice, and pairs of two empty lists are not told at all.
+        self.assertEqual([len(set(part)) for part in paper], [len(part) for part in paper])
+        self.assertNotIn(((), ()), paper[0])
         for row in plain.rows(sorted({cell for rule in first.rules for cell in rule.cells} | {9}), 3):
             self.assertIs(plain_compare.agree(first, second, row), True)
         for told_table in (first, second):

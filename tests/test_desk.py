@@ -428,6 +428,15 @@ class VolumesTest(DeskCase):
             self.refuse(f"sheet {words}", "number")
             self.refuse(f"fall {words}", "number")
 
+    def test_more_than_a_thousand_volumes(self):
+        self.obey(*draft(TABLE, "table"), *draft(["par " + "a" * 190] * 200, "book"), "shape 8 3 1")
+        self.assertEqual(self.obey("lay"), ["sheets 1400 in 1400"])
+        self.assertEqual(self.obey("sheet 999 0")[0], "label 1000")
+        self.assertEqual(self.obey("sheet 1399 0")[0], "label 1400")
+        self.assertEqual(self.obey("sheet 1400 0"), ["refused number"])
+        self.assertEqual(self.obey("fall 1000 0"), ["sheets 1399 in 1399"])
+        self.assertEqual(self.obey("sheet 1000 0")[0], "label 1002")
+
     def test_a_sheet_with_a_back_and_a_longer_label(self):
         self.obey(*draft(TABLE, "table"), "shape 8 3 2", *draft(["par a", "par b", "par ab"], "book"), "lay")
         self.assertEqual(self.obey("sheet 0 0"), ["label 1", "front", "13456 1", "13456 12", "456 2", "back", "13456 1 12", "456 2"])
