@@ -111,7 +111,7 @@ class Change:
             self.windows = Windows(self.stretches)
         found = [None for _ in self.all_places]
         for at in range(len(found) - 1, -1, -1):
-            ahead = self.windows.ahead(at, found)
+            ahead = self.windows.values_ahead(at, found)
             options = [with_new(1, min(ahead))] if ahead else []
             if self.all_places[at] in known:
                 options.append(known[self.all_places[at]])
@@ -140,7 +140,7 @@ class Limits:
     def limit(self, at, bounds, further, ends):
         """Returns the limit of the bound of the place with the number; the lists have the bounds of all places with its
         old sheet, and with the next one, if there is such a sheet; it leads from the place to the ends."""
-        ahead = self.windows.ahead(at, bounds)
+        ahead = self.windows.values_ahead(at, bounds)
         found = [1 + min(ahead)] if ahead else []
         if further is not None:
             found.append(further[at])

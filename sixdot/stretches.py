@@ -23,9 +23,9 @@ class Stretches:
         """Returns the reach of one line from a place."""
         if place not in self.line_reaches:
             last = farthest(self.shape, self.book, self.rows, place, self.last)
-            block, cell, way = last
-            # With `on` a line leads to a cell more than it can have room for.
-            is_full = way == ON and cell > cells_ahead(self.shape, self.book, self.rows, place)[-1]
+            block, cell, _ = last
+            # Only with `on` a line leads to a cell that it has no room to reach.
+            is_full = cell > cells_ahead(self.shape, self.book, self.rows, place)[-1]
             self.line_reaches[place] = (last, (block, cell, JOINED) if is_full else None)
         return self.line_reaches[place]
 
@@ -98,7 +98,7 @@ class Windows:
         others = [(block, cell, ON), (block, cell + 1, ON), lacking]
         return self.numbers[last] + 1, [self.numbers[other] for other in others if other in self.numbers]
 
-    def ahead(self, at, values):
+    def values_ahead(self, at, values):
         """Returns the list of those values, one for each place, to whose places a new sheet can lead from a place."""
         stop, left_out = self.windows[at]
         if left_out:

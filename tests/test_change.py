@@ -123,6 +123,12 @@ class RenewTest(unittest.TestCase):
             sheet((1,), [(59,)], [(61, 1), (59,)]), sheet((2,), [(59,)], [(59,)]),
         ]])
 
+    def test_texts_that_are_words_of_blocks(self):
+        table = Table("abekr", 1, [Rule(0, sign, [at + 1], 0) for at, sign in enumerate("abekr")])
+        book = Book([("par", "break"), ("break",), ("note", 1, "break"), ("head", "break")])
+        volumes, _ = self.check([], book, table=table)
+        self.assertEqual(self.check(volumes, book, table=table), (volumes, []))
+
     def test_a_book_without_blocks(self):
         self.assertEqual(renew(SHAPE, TABLE, [], Book([])), ([], []))
         self.assertEqual(renew(SHAPE, TABLE, [[sheet((1,), [(61, 1)])]], Book([])), ([], []))
@@ -236,6 +242,24 @@ class RenewTest(unittest.TestCase):
         self.assertEqual(found[0][0], sheet((0, 1), [(61, 1, 2, 3, 4, 5, 6, 7), (58, 0)]))
         found, labels = self.check(volumes, pars("1234567890012345005", "6"))
         self.assertEqual(found[0][0], sheet((0, 1), [(61, 1, 2, 3, 4, 5, 6, 7), (57, 8, 9, 0, 0, 1, 2, 3)], [(57, 4, 5, 0)]))
+
+    def test_a_place_with_joined_behind_full_lines(self):
+        # Four full lines lead to (0, 29, "on"), as the cell 28 is left out, but not to (0, 29, "joined").
+        text = "1234567" * 4 + "089"
+        volumes = [[sheet((1,), [(58, 8, 9)])]]
+        self.assertEqual(self.check(volumes, pars(text))[1], [(0, 1)])
+        volumes = [[sheet((1,), [(57, 8, 9)])]]
+        found, labels = self.check(volumes, pars(text))
+        self.assertEqual(labels, [(0, 1), (0, 2)])
+        self.assertEqual(found[0][1], sheet((0, 2), [(57, 0)]))
+        # The one that begins with `on` goes before the others, however many stay.
+        volumes = [[sheet((1,), [(57, 8)]), sheet((2,), [(57, 9)]), sheet((3,), [(58, 8, 9)])]]
+        found, labels = self.check(volumes, pars(text))
+        self.assertEqual((labels_of(found), labels), ([(0, 1), (3,)], [(0, 1)]))
+        # With as many new sheets, but more that stay: a place with `joined` after all.
+        volumes = [[sheet((1,), [(57, 8)]), sheet((2,), [(57, 9)]), sheet((3,), [(58, 8)])]]
+        found, labels = self.check(volumes, pars(text))
+        self.assertEqual((labels_of(found), labels), ([(0, 1), (0, 2), (1,), (2,)], [(0, 1), (0, 2)]))
 
     def test_volumes_of_just_size_sheets(self):
         for size in (1, 2, 3):

@@ -131,6 +131,32 @@ class LanguageTest(unittest.TestCase):
             if isinstance(node.ctx, ast.Load) and hasattr(builtins, node.id):
                 self.assertIn(node.id, BUILTINS, f"{name}:{node.lineno}")
 
+    def test_names_of_classes_and_imports(self):
+        """L15: they are given to nothing else in their file"""
+        for path, tree in self.trees.items():
+            told = [alias.name for node in tree.body if isinstance(node, ast.ImportFrom) for alias in node.names]
+            told.extend(node.name for node in tree.body if isinstance(node, ast.ClassDef))
+            bound = told + [node.name for node in tree.body if isinstance(node, ast.FunctionDef)]
+            bound.extend(names_of_targets(ast.Module([node for node in tree.body if isinstance(node, ast.Assign)], [])))
+            self.assertEqual(len(set(bound)), len(bound), path.name)
+            for node in ast.walk(tree):
+                if isinstance(node, ast.FunctionDef):
+                    given = [part.arg for part in parameters_of(node)] + names_of_targets(node)
+                    self.assertEqual(set(told).intersection(given), set(), f"{path.name}: {node.name}")
+
+    def test_attributes(self):
+        """L18, L26: no name is a method and an attribute in one class, and none has a name that is not free"""
+        for name, node in self.nodes(ast.ClassDef):
+            methods = {part.name for part in node.body if isinstance(part, ast.FunctionDef)}
+            attributes = {
+                part.attr for part in ast.walk(node)
+                if isinstance(part, ast.Attribute) and isinstance(part.ctx, ast.Store) and ast.unparse(part.value) == "self"
+            }
+            self.assertEqual(methods & attributes, set(), f"{name}: {node.name}")
+            taken = {word for value in ("", 0, [], {}, (), b"", {0}) for word in dir(value)}
+            self.assertEqual((methods - {"__init__"}) & taken, set(), f"{name}: {node.name}")
+            self.assertEqual(attributes & taken, set(), f"{name}: {node.name}")
+
     def test_words(self):
         """L17, L27"""
         for name, node in self.nodes(ast.Constant):

@@ -34,6 +34,11 @@ class RowsTest(unittest.TestCase):
         self.assertEqual(rows_of(table, book), [[4], [], [2, 2, 0, 3], [3, 4], [3]])
         self.assertEqual(rows_of(table, Book([])), [])
 
+    def test_texts_that_are_words_of_blocks(self):
+        table = Table("abekr", 1, [Rule(0, sign, [at + 1], 0) for at, sign in enumerate("abekr")])
+        book = Book([("par", "break"), ("break",), ("note", 1, "break")])
+        self.assertEqual(rows_of(table, book), [[2, 5, 3, 1, 4], [], [2, 5, 3, 1, 4]])
+
     def test_a_text_without_a_writing(self):
         for at in range(3):
             blocks = [("par", "1"), ("break",)]
@@ -292,6 +297,10 @@ class SheetEndsTest(unittest.TestCase):
         great = (56, 2, *[1] * 5000)
         self.assertEqual(self.ends((0, 0, "first"), ((10 ** 5000,), (line, great), ())), [(1, 0, "first")])
         self.assertEqual(self.ends((0, 0, "first"), ((10 ** 5000,), (line, right), ())), [])
+
+    def test_labels_that_are_none(self):
+        for label, number in [((), (56,)), ((0,), (56, 1)), ((1, 0), (56, 2, 11, 1)), ((-1,), (56, 0)), ((1, -1), (56, 2, 11, 0))]:
+            self.assertEqual(self.ends((0, 0, "first"), (label, ((60, 7), number), ())), [])
 
     def test_stops(self):
         self.assertEqual(self.ends((2, 0, "first"), sheet((1,), [(59,)])), [(3, 0, "first")])
