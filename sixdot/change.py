@@ -1,6 +1,7 @@
 """Books that are changed: which of the old sheets can stay, the fewest new ones, and bounds that show it."""
 
 from sixdot.places import beginning, ends_of_lines, has_pages, leads_to, places, rows_of
+from sixdot.shape import room_behind
 from sixdot.stretches import Stretches, Windows
 from sixdot.volumes import in_volumes, made_sheet
 
@@ -32,7 +33,7 @@ class Change:
         for place in self.all_places[:-1]:
             begin = beginning(shape, book, place)
             block, cell, _ = place
-            line = begin + tuple(rows[block][cell:cell + shape.width - len(begin)])
+            line = begin + tuple(rows[block][cell:cell + room_behind(shape, len(begin))])
             self.longest.setdefault(line[:len(begin) + 1], []).append((place, line))
         self.sizes = sorted({len(cells) for cells in self.longest})
 

@@ -1,5 +1,7 @@
 """The errors of the program, one class for each kind of failure."""
 
+from sixdot.words import number_word, point_word
+
 
 class SixdotError(ValueError):
     """Every error that the program raises is one of these."""
@@ -9,7 +11,7 @@ class TextError(SixdotError):
     """A text cannot be read; lines and columns count from 1."""
 
     def __init__(self, line, column, reason):
-        super().__init__(f"line {line}, column {column}: {reason}")
+        super().__init__(f"line {number_word(line)}, column {number_word(column)}: {reason}")
         self.line = line
         self.column = column
         self.reason = reason
@@ -27,7 +29,7 @@ class NoWriting(SixdotError):
     """The text of a block has no writing."""
 
     def __init__(self, block):
-        super().__init__(f"the text of block {block} has no writing")
+        super().__init__(f"the text of block {number_word(block)} has no writing")
         self.block = block
 
 
@@ -35,7 +37,7 @@ class NoLayout(SixdotError):
     """The lines of a book cannot be put on pages."""
 
     def __init__(self, line):
-        super().__init__(f"there are no pages behind line {line}")
+        super().__init__(f"there are no pages behind line {number_word(line)}")
         self.line = line
 
 
@@ -43,7 +45,7 @@ class Unreadable(SixdotError):
     """Volumes have a fault at a place."""
 
     def __init__(self, place, reason):
-        super().__init__(f"fault at {place}: {reason}")
+        super().__init__(f"fault at {point_word(place)}: {reason}")
         self.place = place
         self.reason = reason
 
@@ -61,7 +63,7 @@ class NoText(SixdotError):
     """A row has no text."""
 
     def __init__(self, place):
-        super().__init__(f"the row has no text: it cannot be read at {place}")
+        super().__init__(f"the row has no text: it cannot be read at {number_word(place)}")
         self.place = place
 
 
@@ -69,7 +71,7 @@ class StrangeSheet(SixdotError):
     """Sheets that lie on a heap are not short of those to be bound."""
 
     def __init__(self, place):
-        super().__init__(f"the sheet at {place} is strange")
+        super().__init__(f"the sheet at {number_word(place)} is strange")
         self.place = place
 
 
@@ -77,7 +79,7 @@ class NotMissing(SixdotError):
     """A further sheet is not the missing one whose turn it is."""
 
     def __init__(self, number):
-        super().__init__(f"the further sheet {number} is not the one whose turn it is")
+        super().__init__(f"the further sheet {number_word(number)} is not the one whose turn it is")
         self.number = number
 
 

@@ -1,6 +1,7 @@
 """Rows of cells, broken into lines at least cost, and prices that show that no lines cost less."""
 
 from sixdot.errors import Unreadable
+from sixdot.shape import room_behind
 
 JOINED_COST = 50
 
@@ -23,15 +24,16 @@ def ways_to_begin(row, cell):
     return [JOINED]
 
 
-def room_at(shape, mark, cell):
-    """Returns how many cells of the row a line can have that begins at a cell, in any way."""
+def begin_length(shape, mark, cell):
+    """Returns how many cells stand ahead of those of the row in a line that begins at a cell, in any way."""
     # `on` and `joined` have equally many cells.
-    return shape.width - len(mark if cell == 0 else shape.marks.on)
+    return len(mark if cell == 0 else shape.marks.on)
 
 
 def line_ends(shape, mark, row, cell):
     """Returns the list of the cells ahead of which a line can end that begins at a cell."""
-    return list(range(cell + 1, min(cell + room_at(shape, mark, cell), len(row)) + 1))
+    room = room_behind(shape, begin_length(shape, mark, cell))
+    return list(range(cell + 1, min(cell + room, len(row)) + 1))
 
 
 def following(row, end):
@@ -43,7 +45,7 @@ def following(row, end):
 
 def cost_behind(shape, mark, cell, end, way):
     """Returns the cost of a line, from a cell to ahead of another one, and of what follows it in a way beginning."""
-    gap = room_at(shape, mark, cell) - (end - cell)
+    gap = shape.width - begin_length(shape, mark, cell) - (end - cell)
     return gap ** 2 + (JOINED_COST if way == JOINED else 0)
 
 

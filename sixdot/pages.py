@@ -23,7 +23,8 @@ def parting_places(blocks, lines):
 
 def may_end(blocks, lines, at):
     """Returns True if a page may end ahead of the line with the number `at`."""
-    return parting_places(blocks, lines)[at]
+    found = parting_places(blocks, lines)
+    return 0 <= at < len(found) and found[at]
 
 
 class Pages:
@@ -32,11 +33,12 @@ class Pages:
     def __init__(self, height, blocks, lines):
         self.most = height - 1
         self.parting = parting_places(blocks, lines)
-        self.total = sum(lines)
+        self.total = len(self.parting) - 1
         self.behind_stops = {}
         at = 0
         for block, many in zip(blocks, lines):
-            at += many
+            # A number below 0 adds no lines, as little as 0 does.
+            at += max(many, 0)
             if block[0] == "break":
                 self.behind_stops[at] = True
 

@@ -1,7 +1,7 @@
 """Places of a book, and where its lines and sheets lead from them."""
 
 from sixdot.errors import NoWriting
-from sixdot.shape import block_mark, is_label, number_line
+from sixdot.shape import block_mark, is_label, number_line, room_behind
 from sixdot.writing import best_writing
 
 # How a line begins at a place. These words have the order of the places that have them.
@@ -58,9 +58,15 @@ def beginning(shape, book, place):
     return block_mark(shape, book.blocks[block])
 
 
+def has_line(rows, place):
+    """Returns True if a line can begin at a place: not at the last one, or beyond the blocks or the cells of one."""
+    block, cell, _ = place
+    return 0 <= block < len(rows) and (cell == 0 or 0 < cell < len(rows[block]))
+
+
 def line_ends(shape, book, rows, place, line):
     """Returns the ascending list of the places to which the line leads from the place."""
-    if place == last_place(book) or len(line) > shape.width:
+    if not has_line(rows, place) or len(line) > shape.width:
         return []
     block, cell, _ = place
     row = rows[block]
@@ -114,13 +120,15 @@ def leads_to(place, end):
 def cells_ahead(shape, book, rows, place):
     """Returns the list of the cells ahead of which a line can end that begins at the place, which is not the last."""
     block, cell, _ = place
-    room = shape.width - len(beginning(shape, book, place))
+    room = room_behind(shape, len(beginning(shape, book, place)))
     cells = len(rows[block])
     return list(range(min(cell + 1, cells), min(cell + room, cells) + 1))
 
 
 def farthest(shape, book, rows, place, end):
     """Returns the last place to which a line can lead from the place and that is the end, or leads to it; or None."""
+    if not has_line(rows, place):
+        return None
     block = place[0]
     cells = cells_ahead(shape, book, rows, place)
     found = [further for cell in cells for further in places_at(rows[block], block, cell)]

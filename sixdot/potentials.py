@@ -3,6 +3,11 @@
 from sixdot.writing import cells_of_way, fitting, is_way
 
 
+def number_of_mode(row, mode):
+    """Returns the number of a mode, given the list of those of its place; 0 for a mode that the table has not."""
+    return row[mode] if 0 <= mode < len(row) else 0
+
+
 def number_at(table, text, place, mode, numbers, unwritten):
     """Returns the greatest number that a place and a mode can have, given those of the places behind it.
 
@@ -11,7 +16,7 @@ def number_at(table, text, place, mode, numbers, unwritten):
     found = [unwritten]
     for number in fitting(table, text, place, mode):
         rule = table.rules[number]
-        found.append(len(rule.cells) + numbers[place + len(rule.text)][rule.to])
+        found.append(len(rule.cells) + number_of_mode(numbers[place + len(rule.text)], rule.to))
     return min(found)
 
 
@@ -27,14 +32,14 @@ def make_numbers(table, text):
 
 def have_lengths(table, text, numbers):
     """Returns True if there is a number for each place and each mode, and no more."""
-    return len(numbers) == len(text) + 1 and all([len(row) == table.modes for row in numbers])
+    return len(numbers) == len(text) + 1 and all([len(row) == max(table.modes, 0) for row in numbers])
 
 
 def holds_at(table, text, numbers, place, mode):
     """Returns True if no rule that fits at the place in the mode shows that its number is too great."""
     for number in fitting(table, text, place, mode):
         rule = table.rules[number]
-        if numbers[place][mode] > len(rule.cells) + numbers[place + len(rule.text)][rule.to]:
+        if numbers[place][mode] > len(rule.cells) + number_of_mode(numbers[place + len(rule.text)], rule.to):
             return False
     return True
 
@@ -55,5 +60,5 @@ def shows_best(table, text, numbers, way):
     return (
         accepts_numbers(table, text, numbers)
         and is_way(table, text, way)
-        and len(cells_of_way(table, way)) == numbers[0][0]
+        and len(cells_of_way(table, way)) == number_of_mode(numbers[0], 0)
     )

@@ -1,7 +1,7 @@
 """Rows of cells, read back: spots, readers, and the texts of a row."""
 
 from sixdot.errors import NoText, SeveralTexts, TooLarge
-from sixdot.table import BEGINNING, END, Table
+from sixdot.table import BEGINNING, END, Table, has_parts
 
 MOST_TEXTS = 500
 
@@ -14,7 +14,10 @@ def is_spot(table, spot):
     number, read = spot
     if spot == FIRST_SPOT:
         return True
-    return 0 <= number < len(table.rules) and 1 <= read <= len(table.rules[number].cells)
+    if not 0 <= number < len(table.rules):
+        return False
+    rule = table.rules[number]
+    return has_parts(rule) and 1 <= read <= len(rule.cells)
 
 
 def added_text(table, spot):
@@ -33,7 +36,8 @@ class Courses:
         """Returns the ascending list of the spots of the table."""
         spots = [FIRST_SPOT]
         for number, rule in enumerate(self.table.rules):
-            spots.extend([(number, read) for read in range(1, len(rule.cells) + 1)])
+            if has_parts(rule):
+                spots.extend([(number, read) for read in range(1, len(rule.cells) + 1)])
         return spots
 
     def bearing(self, spot):
@@ -72,7 +76,7 @@ class Courses:
         mode, last, behind = bearing
         found = {}
         for number, rule in enumerate(self.table.rules):
-            is_next = rule.mode == mode and (rule.ahead is None or last in rule.ahead)
+            is_next = rule.mode == mode and has_parts(rule) and (rule.ahead is None or last in rule.ahead)
             if is_next and (behind is None or rule.text[0] in behind):
                 found.setdefault(rule.cells[0], []).append((number, 1))
         return found
@@ -116,12 +120,12 @@ class Courses:
 
 def next_spots(table, spot, cell):
     """Returns the ascending list of the spots to which a spot goes on by a cell."""
-    return list(Courses(table).goes_on(spot).get(cell, []))
+    return list(Courses(table).goes_on(spot).get(cell, [])) if is_spot(table, spot) else []
 
 
 def can_end(table, spot):
     """Returns True if the spot can end."""
-    return Courses(table).can_end(spot)
+    return is_spot(table, spot) and Courses(table).can_end(spot)
 
 
 class Reader:

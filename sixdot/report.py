@@ -1,6 +1,6 @@
 """Rows, labels and sheets, written as lines; and rows, read from words."""
 
-from sixdot.words import cell_of_word, number_word
+from sixdot.words import cell_of_word, point_word
 from sixdot.writer import write_cell
 
 
@@ -11,7 +11,7 @@ def row_line(row):
 
 def label_word(label):
     """Returns a label, or a place, as a word."""
-    return ".".join([number_word(number) for number in label])
+    return point_word(label)
 
 
 def sheet_lines(sheet):

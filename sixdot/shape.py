@@ -93,14 +93,16 @@ def are_marks(marks):
 
 def figures(number):
     """Returns the row of a number, the list of the cells of its digits."""
-    return [int(digit) + 1 for digit in number_word(number)]
+    # There is no cell for a minus: a number below 0 is pressed as its digits alone.
+    return [int(digit) + 1 for digit in number_word(abs(number))]
 
 
 def label_row(label):
     """Returns the row of a label, the list of the cells of its numbers and of those between them."""
-    row = figures(label[0])
-    for number in label[1:]:
-        row.append(LABEL_CELL)
+    row = []
+    for at, number in enumerate(label):
+        if at > 0:
+            row.append(LABEL_CELL)
         row.extend(figures(number))
     return row
 
@@ -115,6 +117,19 @@ def number_line(shape, label):
     return shape.marks.number + tuple(label_row(label))
 
 
+def depth_mark(shape, depth):
+    """Returns the mark of an item of a depth."""
+    depths = shape.marks.depths
+    # A depth beyond those that have marks gets the mark of the nearest one.
+    return depths[min(max(depth, 1), len(depths)) - 1]
+
+
+def room_behind(shape, many):
+    """Returns how many cells of a row a line has room for that begins with so many other cells."""
+    # Behind the mark of a note with a very great label there may be no room; but no line is without cells of the row.
+    return max(shape.width - many, 1)
+
+
 def block_mark(shape, block):
     """Returns the tuple of the cells with which the first line of a block begins."""
     marks = shape.marks
@@ -124,7 +139,7 @@ def block_mark(shape, block):
     if kind == "par":
         return marks.par
     if kind == "item":
-        return marks.depths[block[1] - 1]
+        return depth_mark(shape, block[1])
     if kind == "note":
         return marks.note + tuple(figures(block[1])) + (0,)
     return marks.stop

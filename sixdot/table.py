@@ -137,6 +137,11 @@ def is_rule(rule, signs, modes):
     )
 
 
+def has_parts(rule):
+    """Returns True if a rule has signs and cells; without them, as in no table that is let by, it is never used."""
+    return rule.text != "" and rule.cells != []
+
+
 def is_let_by(table):
     """Returns True if the table is let by."""
     return (

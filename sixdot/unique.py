@@ -162,8 +162,15 @@ class Pairs:
         return found
 
 
+def is_pair(table, pair):
+    """Returns True if a tuple of two pairs of integers is a pair of spots of the table."""
+    return is_spot(table, pair[0]) and is_spot(table, pair[1])
+
+
 def next_pairs(table, pair, lead):
     """Returns the list of the tuples (cell, pair, lead) to which a pair with a lead goes on, ascending."""
+    if not is_pair(table, pair):
+        return []
     courses = Courses(table)
     pairs = Pairs(courses, courses)
     found = []
@@ -175,6 +182,8 @@ def next_pairs(table, pair, lead):
 
 def is_hopeful(table, pair):
     """Returns True if the pair goes on to one that can end, by some cells or by none."""
+    if not is_pair(table, pair):
+        return False
     courses = Courses(table)
     pairs = Pairs(courses, courses)
     return pairs.hopeful_pairs()[pair[0]] & pairs.digits[pair[1]] != 0

@@ -25,7 +25,7 @@ def sides_of(shape, pages):
         else:
             sides.append([page])
         # Behind a line `stop` the next page begins a front.
-        is_back = not is_back and page[-1] != shape.marks.stop
+        is_back = not is_back and (not page or page[-1] != shape.marks.stop)
     return sides
 
 

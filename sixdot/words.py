@@ -29,13 +29,21 @@ def number_of(word, digits):
 
 
 def number_word(number):
-    """Returns the decimal digits of a number of at least 0, however many they are."""
+    """Returns the decimal digits of a number, however many they are; behind a minus, if it is below 0."""
     parts = []
-    while number >= PART:
-        number, part = divmod(number, PART)
+    rest = abs(number)
+    while rest >= PART:
+        rest, part = divmod(rest, PART)
         parts.append(str(part).zfill(PART_DIGITS))
-    parts.append(str(number))
+    parts.append(str(rest))
+    if number < 0:
+        parts.append("-")
     return "".join(reversed(parts))
+
+
+def point_word(numbers):
+    """Returns numbers as a word, with a point between them."""
+    return ".".join([number_word(number) for number in numbers])
 
 
 def cell_of_word(word):

@@ -18,9 +18,9 @@ def write_quoted(text):
 
 def write_rule(rule):
     """Returns the line of a rule."""
-    words = ["rule", str(rule.mode), write_quoted(rule.text), "="]
+    words = ["rule", number_word(rule.mode), write_quoted(rule.text), "="]
     words.extend([write_cell(cell) for cell in rule.cells])
-    words.extend(["to", str(rule.to)])
+    words.extend(["to", number_word(rule.to)])
     if rule.ahead is not None:
         words.extend(["ahead", write_quoted(rule.ahead)])
     if rule.behind is not None:
@@ -35,7 +35,7 @@ def ended(lines):
 
 def write_table(table):
     """Returns the text of a table."""
-    first = [f"signs {write_quoted(table.signs)}", f"modes {table.modes}"]
+    first = [f"signs {write_quoted(table.signs)}", f"modes {number_word(table.modes)}"]
     return ended(first + [write_rule(rule) for rule in table.rules])
 
 

@@ -1,7 +1,7 @@
 """The ways to write a text by the rules of a table, its writings, and the best ones."""
 
 from sixdot.errors import TooLarge
-from sixdot.table import BEGINNING, END
+from sixdot.table import BEGINNING, END, has_parts
 
 MOST_WRITINGS = 1000
 
@@ -9,7 +9,7 @@ MOST_WRITINGS = 1000
 def fits(rule, text, place):
     """Returns True if the rule fits the text at the place."""
     end = place + len(rule.text)
-    if text[place:end] != rule.text:
+    if place < 0 or text[place:end] != rule.text or not has_parts(rule):
         return False
     before = text[place - 1] if place > 0 else BEGINNING
     after = text[end] if end < len(text) else END
@@ -41,6 +41,11 @@ def cells_of_way(table, way):
     return [cell for number in way for cell in table.rules[number].cells]
 
 
+def modes_of(table):
+    """Returns the ascending list of the modes in which a rule can be due, also of those beyond the table's."""
+    return sorted(set(list(range(table.modes)) + [0] + [rule.to for rule in table.rules]))
+
+
 def best_choice(table, text, place, mode, best):
     """Returns the least tuple (number of cells, cells, rule) to write the text from the place on, or None."""
     found = []
@@ -55,9 +60,10 @@ def best_choice(table, text, place, mode, best):
 
 def best_choices(table, text):
     """Returns a dict with the best choice at each pair of a place and a mode."""
-    best = {(len(text), mode): (0, [], None) for mode in range(table.modes)}
+    modes = modes_of(table)
+    best = {(len(text), mode): (0, [], None) for mode in modes}
     for place in range(len(text) - 1, -1, -1):
-        for mode in range(table.modes):
+        for mode in modes:
             best[place, mode] = best_choice(table, text, place, mode, best)
     return best
 
@@ -82,9 +88,10 @@ def best_writing(table, text):
 
 def ended_places(table, text):
     """Returns a dict of the pairs of a place and a mode from which the text can be written to its end."""
-    ended = {(len(text), mode): True for mode in range(table.modes)}
+    modes = modes_of(table)
+    ended = {(len(text), mode): True for mode in modes}
     for place in range(len(text) - 1, -1, -1):
-        for mode in range(table.modes):
+        for mode in modes:
             rules = [table.rules[number] for number in fitting(table, text, place, mode)]
             if any([(place + len(rule.text), rule.to) in ended for rule in rules]):
                 ended[place, mode] = True

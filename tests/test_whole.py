@@ -131,7 +131,7 @@ class WholeTest(unittest.TestCase):
                 if isinstance(node, ast.Raise):
                     self.assertIsInstance(node.exc, ast.Call, name)
                     raised.add(node.exc.func.id)
-        self.assertEqual(raised, {word for word in vars(errors) if word[0] != "_"} - {"SixdotError"})
+        self.assertEqual(raised, {word for word, told in vars(errors).items() if isinstance(told, type)} - {"SixdotError"})
         for word in raised:
             self.assertEqual(getattr(errors, word).__bases__, (errors.SixdotError,))
         self.assertEqual(errors.SixdotError.__bases__, (ValueError,))
